@@ -2,11 +2,11 @@
 package machine
 
 import (
-	"cmp"
 	"slices"
 
 	"exegesis/api"
 	"exegesis/expr"
+	"exegesis/pairs"
 )
 
 // Machine is a thread on its way. Sets of reads are rising lists of places that are never changed.
@@ -120,14 +120,8 @@ func (m *Machine) Regs() []int { return slices.Clone(m.regs[:]) }
 // Finish puts the pairs in order, each once.
 func (m *Machine) Finish() {
 	for _, l := range []*[]api.Pair{&m.Rmw, &m.Data, &m.Ctrl, &m.CtrlI} {
-		slices.SortFunc(*l, ComparePairs)
-		*l = slices.Clip(slices.Compact(*l))
+		*l = pairs.Sort(*l)
 	}
-}
-
-// ComparePairs orders pairs by A, then B.
-func ComparePairs(p, q api.Pair) int {
-	return cmp.Or(cmp.Compare(p.A, q.A), cmp.Compare(p.B, q.B))
 }
 
 // After is the place behind one of a list at which a thread goes on, if n more are left out.
