@@ -5,6 +5,7 @@ import (
 	"slices"
 
 	"exegesis/api"
+	"exegesis/eco"
 	"exegesis/graph"
 	"exegesis/rel"
 )
@@ -44,3 +45,14 @@ func Itself(r *rel.Rel) bool {
 	}
 	return false
 }
+
+// Accesses is all reads and writes, each with itself.
+func Accesses(g api.Graph) *rel.Rel {
+	return Events(g, api.Read).Or(Events(g, api.Write))
+}
+
+// Within is what stands ahead of what within a thread. The first writes have no order.
+func Within(g api.Graph) *rel.Rel { return eco.Inner(g, graph.Po(g)) }
+
+// WithinLoc is that of reads and writes of one location.
+func WithinLoc(g api.Graph) *rel.Rel { return eco.Inner(g, eco.Loc(g)) }

@@ -1,95 +1,116 @@
-// Package sample: programs and graphs for tests.
+// Package sample: programs and graphs for tests. What is none makes it panic.
 package sample
 
 import (
+	"slices"
 	"strings"
 
 	"exegesis/api"
+	"exegesis/asm"
 	"exegesis/gen"
-	"exegesis/graph"
 	"exegesis/lang"
+	"exegesis/pgraph"
 )
 
-// Program is the program of a text whose lines are divided by semicolons, and trimmed; of one that is none it panics.
-func Program(text string) api.Prog {
-	lines := strings.Split(text, ";")
-	for i, l := range lines {
-		lines[i] = strings.TrimSpace(l)
+// lines is a text whose lines are divided by semicolons, and trimmed.
+func lines(text string) string {
+	l := strings.Split(text, ";")
+	for i, s := range l {
+		l[i] = strings.TrimSpace(s)
 	}
-	p, _, e := lang.Parse(strings.Join(lines, "\n"))
+	return strings.Join(l, "\n")
+}
+
+// Program is the program of a text whose lines are divided by semicolons.
+func Program(text string) api.Prog {
+	p, _, e := lang.Parse(lines(text))
 	if e != api.OK {
 		panic("no program: " + text)
 	}
 	return p
 }
 
-// Graph is the graph of a program whose reads, in order, read from some writes, and whose writes come in some order (the first ones left out); of one that is none it panics.
+// Power is the same for programs of POWER.
+func Power(text string) api.PProg {
+	p, _, e := asm.Parse(lines(text))
+	if e != api.OK {
+		panic("no program: " + text)
+	}
+	return p
+}
+
+// Graph is the graph of a program whose reads, in order, read from some writes, and whose writes come in some order (the first ones left out).
 func Graph(text string, from []int, co ...[]int) api.Graph {
 	p := Program(text)
-	g, ok := settle(p, from)
-	for l := range p.Locs {
-		g.Co = append(g.Co, []int{l})
-		if l < len(co) {
-			g.Co[l] = append(g.Co[l], co[l]...)
-		}
-	}
-	if !ok || gen.Generated(p, g) != api.OK || !graph.Check(g) {
+	m := maker{len(p.Threads), func(reads [][]int) (api.Graph, api.Errno) { return gen.Skeleton(p, reads) }}
+	g, ok := m.graph(from, co)
+	if !ok || gen.Generated(p, g) != api.OK {
 		panic("no graph: " + text)
 	}
 	return g
 }
 
-// settle looks for the values that reads have if they read from there: it starts from zeros, and goes on till nothing changes.
-func settle(p api.Prog, from []int) (api.Graph, bool) {
+// PGraph is the same for programs of POWER.
+func PGraph(text string, from []int, co ...[]int) api.Graph {
+	p := Power(text)
+	m := maker{len(p.Threads), func(reads [][]int) (api.Graph, api.Errno) { return pgraph.Skeleton(p, reads) }}
+	g, ok := m.graph(from, co)
+	if !ok || pgraph.Generated(p, g) != api.OK {
+		panic("no graph: " + text)
+	}
+	return g
+}
+
+// maker makes graphs of a program.
+type maker struct {
+	threads  int
+	skeleton func(reads [][]int) (api.Graph, api.Errno)
+}
+
+func (m maker) graph(from []int, co [][]int) (api.Graph, bool) {
+	g, ok := m.settled(from)
+	for loc := range g.Locs {
+		g.Co = append(g.Co, []int{loc})
+		if loc < len(co) {
+			g.Co[loc] = append(g.Co[loc], co[loc]...)
+		}
+	}
+	return g, ok
+}
+
+// settled looks for the values that reads have if they read from there: it starts from zeros, and goes on till nothing changes.
+func (m maker) settled(from []int) (api.Graph, bool) {
 	values := make([]int, len(from))
 	for range 50 {
-		g, ok := divided(p, values)
+		g, ok := m.divided(values, nil)
 		if !ok {
 			return api.Graph{}, false
 		}
-		old := append([]int{}, values...)
-		n := 0
+		var now []int
 		for _, e := range g.Events {
-			g.Rf = append(g.Rf, -1)
+			source := -1
 			if e.Kind == api.Read {
-				g.Rf[len(g.Rf)-1] = from[n]
-				values[n] = g.Events[from[n]].Value
-				n++
+				source = from[len(now)]
+				now = append(now, g.Events[source].Value)
 			}
+			g.Rf = append(g.Rf, source)
 		}
-		if n == len(values) && equal(old, values) {
+		if slices.Equal(now, values) {
 			return g, true
 		}
+		values = now
 	}
 	return api.Graph{}, false
 }
 
-func equal(a, b []int) bool {
-	for i := range a {
-		if a[i] != b[i] {
-			return false
-		}
-	}
-	return true
-}
-
-// divided is the skeleton of a program whose reads, all in order, have some values.
-func divided(p api.Prog, values []int) (api.Graph, bool) {
-	var reads [][]int
-	for range p.Threads {
-		reads = append(reads, nil)
-	}
-	return try(p, values, reads, 0)
-}
-
-func try(p api.Prog, values []int, reads [][]int, t int) (api.Graph, bool) {
-	if t == len(p.Threads) {
-		g, e := gen.Skeleton(p, reads)
+// divided is the skeleton of a program whose reads, all in order, have some values behind those that were dealt out.
+func (m maker) divided(values []int, dealt [][]int) (api.Graph, bool) {
+	if len(dealt) == m.threads {
+		g, e := m.skeleton(dealt)
 		return g, e == api.OK && len(values) == 0
 	}
 	for n := 0; n <= len(values); n++ {
-		reads[t] = values[:n]
-		if g, ok := try(p, values[n:], reads, t+1); ok {
+		if g, ok := m.divided(values[n:], append(slices.Clip(dealt), values[:n])); ok {
 			return g, true
 		}
 	}
