@@ -119,7 +119,7 @@ func TestChecked(t *testing.T) {
 // P27.2, T4: for each program that may be: what Optimise makes is accepted and no longer; the code is its Lower.
 func TestTheorem(t *testing.T) {
 	rnd := rand.New(rand.NewSource(1))
-	all := strings.Split("r1 = load x rlx; r2 = load x rlx; r2 = load y rlx; r1 = load y acq; store x rlx 1; store x rlx 1 1 +; store x rlx r1; store y rlx r1 r2 * 3 +; store y rel r1; store x rel 1; fence acq; fence rel; fence sc; r1 = faa x rlx rlx 1 1 +; r2 = faa y acq rel 1; r2 = 1; r1 = r2; r1 = r1 r2 *; r1 = r1 r1 *; skip 1 r1; skip 2 r2; skip 3 1 1 -", "; ")
+	all := strings.Split("r1 = load x rlx; r2 = load x rlx; r2 = load y rlx; r1 = load y acq; store x rlx 1; store x rlx 1 1 +; store x rlx r1; store y rlx r1 r2 * 3 +; store y rel r1; store x rel 1; fence acq; fence rel; fence sc; r1 = faa x rlx rlx 1 1 +; r2 = faa x rlx rlx r1; r2 = faa y acq rel 1; r2 = 1; r1 = r2; r1 = r1 r2 *; r1 = r1 r1 *; skip 1 r1; skip 2 r2; skip 3 1 1 -", "; ")
 	seen := map[api.Errno]int{}
 	for range 1500 {
 		p := api.Prog{Locs: 2, Threads: make([][]api.Instr, 1+rnd.Intn(3))}
@@ -165,7 +165,7 @@ func TestTheorem(t *testing.T) {
 // T1: each end that the code can have by POWER, the program can have by IMM.
 func TestWhole(t *testing.T) {
 	rnd := rand.New(rand.NewSource(2))
-	all := strings.Split("r1 = load x rlx; r2 = load x rlx; r2 = load y rlx; r1 = load y acq; store x rlx 1; store x rlx 1 1 +; store x rlx r1; store y rlx 1; store y rel r1; store x rel 1; fence acq; fence rel; fence sc; r1 = faa x rlx rlx 1; r2 = 1; skip 1 r1", "; ")
+	all := strings.Split("r1 = load x rlx; r2 = load x rlx; r2 = load y rlx; r1 = load y acq; store x rlx 1; store x rlx 1 1 +; store x rlx r1; store y rlx 1; store y rel r1; store x rel 1; fence acq; fence rel; fence sc; r1 = faa x rlx rlx 1; r2 = faa x rlx rlx r1; r2 = 1; skip 1 r1", "; ")
 	some, less := 0, 0
 	for range 300 {
 		p := api.Prog{Locs: 2, Threads: make([][]api.Instr, 2)}

@@ -136,7 +136,7 @@ func turns(l []int) [][]int {
 func TestAllAgainstPlain(t *testing.T) {
 	rnd := rand.New(rand.NewSource(1))
 	lines := []string{
-		"r1 = load x rlx", "r2 = load y acq", "r3 = load x acq", "store x rlx 1", "store y rel r1", "store x rlx r2 r1 +", "store y rlx 2", "r1 = faa x rlx rlx 1", "r2 = faa y acq rel 2", "fence sc",
+		"r1 = load x rlx", "r2 = load y acq", "r3 = load x acq", "store x rlx 1", "store y rel r1", "store x rlx r2 r1 +", "store y rlx 2", "r1 = faa x rlx rlx 1", "r2 = faa y acq rel 2", "r1 = faa y rlx rlx r2", "fence sc",
 		"skip 1 r1", "skip 1 r2 r1 =", "skip 0 r1", "r1 = r1 1 +", "r2 = 1 r1 -", "skip 2 r3", "store y rlx r1 r1 -",
 	}
 	domains := [][]int{{0, 1}, {0, 1, 2}, {2, 1, 0}, {1, 2}, {0}, nil, {3, 0, 1, 0, 3}, {1, 0, 5}}
@@ -153,6 +153,12 @@ func TestAllAgainstPlain(t *testing.T) {
 		domain := domains[rnd.Intn(len(domains))]
 		got, e := enum.All(p, domain)
 		want := plain(p, domain)
+		if len(want) > api.MaxGraphs {
+			if e != api.ErrBig {
+				t.Fatal(lang.Text(p), domain, e)
+			}
+			continue
+		}
 		if e != api.OK || !slices.EqualFunc(got, want, graph.Same) {
 			t.Fatal(lang.Text(p), domain, e, len(got), len(want))
 		}

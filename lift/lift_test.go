@@ -73,7 +73,7 @@ func TestTheorem(t *testing.T) {
 	rnd := rand.New(rand.NewSource(1))
 	lines := []string{
 		"r1 = load x rlx", "r2 = load y rlx", "r1 = load x acq", "r2 = load y acq", "store x rlx 1", "store y rlx 1", "store x rel 2", "store y rel 2", "store x rlx r2", "store y rlx r1", "store y rel r1",
-		"fence acq", "fence rel", "fence acqrel", "fence sc", "fence sc", "r1 = faa x rlx rlx 1", "r2 = faa y acq rel 1", "r1 = faa x rlx rel 1", "skip 1 r1", "skip 0 r2",
+		"fence acq", "fence rel", "fence acqrel", "fence sc", "fence sc", "r1 = faa x rlx rlx 1", "r2 = faa x rlx rlx r1", "r2 = faa y acq rel 1", "r1 = faa x rlx rel 1", "skip 1 r1", "skip 0 r2",
 	}
 	may, not := 0, 0
 	for range 1000 {

@@ -27,7 +27,7 @@ func TestLower(t *testing.T) {
 		{"fence acq; fence rel; fence acqrel; fence sc", "lwsync; lwsync; lwsync; sync", []int{1, 1, 1, 1}},
 		{"r1 = faa x rlx rlx 1", "larx r1 x; stcx x r1 1 +; bc 0 r1", []int{3}}, {"r1 = faa x acq rlx 2 3 *", "larx r1 x; stcx x r1 2 3 * +; bc 0 r1; isync", []int{4}},
 		{"r2 = faa z rlx rel 1", "lwsync; larx r2 z; stcx z r2 1 +; bc 0 r2", []int{4}}, {"r2 = faa z acq rel 1 1 1 1 + + +", "lwsync; larx r2 z; stcx z r2 1 1 1 1 + + + +; bc 0 r2; isync", []int{5}},
-		{"r1 = r2 1 -", "mov r1 r2 1 -", []int{1}}, {"skip 0 r1", "bc 0 r1", []int{1}},
+		{"r2 = faa z rlx rlx r1 r3 *", "larx r2 z; stcx z r2 r1 r3 * +; bc 0 r2", []int{3}}, {"r1 = r2 1 -", "mov r1 r2 1 -", []int{1}}, {"skip 0 r1", "bc 0 r1", []int{1}},
 		{"skip 2 r1; r1 = load x acq; store x rel 1; fence sc", "bc 5 r1; ld r1 x; bc 0 r1; isync; lwsync; st x 1; sync", []int{1, 3, 2, 1}},
 		{"fence sc; skip 3 1; skip 2 2; r1 = faa x acq rel 1; store x rel 1", "sync; bc 8 1; bc 7 2; lwsync; larx r1 x; stcx x r1 1 +; bc 0 r1; isync; lwsync; st x 1", []int{1, 1, 1, 5, 2}},
 		{"skip 1 1; skip 1 1; fence sc", "bc 1 1; bc 1 1; sync", []int{1, 1, 1}},

@@ -39,7 +39,11 @@ func (r *Rel) Has(a, b int) bool {
 
 // Pairs is all pairs.
 func (r *Rel) Pairs() []api.Pair {
-	var l []api.Pair
+	n := 0
+	for _, row := range r.rows {
+		n += bits.OnesCount64(row)
+	}
+	l := make([]api.Pair, 0, n)
 	for a, row := range r.rows {
 		for ; row != 0; row &= row - 1 {
 			l = append(l, api.Pair{A: a, B: bits.TrailingZeros64(row)})

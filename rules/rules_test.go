@@ -63,6 +63,7 @@ func TestSteps(t *testing.T) {
 		{"r1 = load x rlx; store y rlx r1", api.Swap, 0, 0, ""}, {"r1 = load x rlx; store y rlx r2", api.Swap, 0, 0, "store y rlx r2; r1 = load x rlx"}, {"store y rlx r1; r1 = load x rlx", api.Swap, 0, 0, ""}, {"store y rlx r2; r1 = load x rlx", api.Swap, 0, 0, "r1 = load x rlx; store y rlx r2"}, {"store y rel r2; r1 = load x acq", api.Swap, 0, 0, "r1 = load x acq; store y rel r2"},
 		{"r1 = load x rlx; r2 = 1", api.Swap, 0, 0, "r2 = 1; r1 = load x rlx"}, {"r1 = load x rlx; r2 = r1", api.Swap, 0, 0, ""}, {"r1 = load x rlx; r1 = 1", api.Swap, 0, 0, ""}, {"r2 = r1; r1 = load x rlx", api.Swap, 0, 0, ""}, {"r1 = load x acq; r2 = 1", api.Swap, 0, 0, "r2 = 1; r1 = load x acq"}, {"r2 = 1; store x rel r3", api.Swap, 0, 0, "store x rel r3; r2 = 1"}, {"r2 = 1; r3 = 2", api.Swap, 0, 0, "r3 = 2; r2 = 1"}, {"r2 = 1; r3 = r2", api.Swap, 0, 0, ""}, {"r2 = r3; r3 = 1", api.Swap, 0, 0, ""}, {"r2 = r2; r2 = r2", api.Swap, 0, 0, ""},
 		{"r1 = faa x rlx rlx 1; r2 = 1", api.Swap, 0, 0, "r2 = 1; r1 = faa x rlx rlx 1"}, {"r1 = faa x rlx rlx 1; r2 = load y rlx", api.Swap, 0, 0, ""}, {"r2 = load y rlx; r1 = faa x rlx rlx 1", api.Swap, 0, 0, "r1 = faa x rlx rlx 1; r2 = load y rlx"}, {"r2 = load y rlx; r1 = faa x acq rlx 1", api.Swap, 0, 0, "r1 = faa x acq rlx 1; r2 = load y rlx"}, {"r2 = load y rlx; r1 = faa x rlx rel 1", api.Swap, 0, 0, ""}, {"r2 = load x rlx; r1 = faa x rlx rlx 1", api.Swap, 0, 0, ""}, {"r1 = faa x acq rel 1; r2 = 1", api.Swap, 0, 0, "r2 = 1; r1 = faa x acq rel 1"},
+		{"r2 = load y rlx; r1 = faa x rlx rlx r2", api.Swap, 0, 0, ""}, {"r1 = faa x rlx rlx r2; r2 = 1", api.Swap, 0, 0, ""}, {"r1 = faa x rlx rlx r2; r3 = 1", api.Swap, 0, 0, "r3 = 1; r1 = faa x rlx rlx r2"},
 		{"fence sc; store y rlx 2", api.Swap, 0, 0, ""}, {"store y rlx 2; fence acq", api.Swap, 0, 0, ""}, {"skip 0 1; store y rlx 2", api.Swap, 0, 0, ""}, {"store y rlx 2; skip 0 1", api.Swap, 0, 0, ""}, {"r1 = 1; skip 0 1", api.Swap, 0, 0, ""},
 		{"skip 1 r1; store x rlx 1; store y rlx 2", api.Swap, 1, 0, ""}, {"skip 2 r1; store x rlx 1; store y rlx 2", api.Swap, 1, 0, "skip 2 r1; store y rlx 2; store x rlx 1"}, {"skip 0 r1; store x rlx 1; store y rlx 2", api.Swap, 1, 0, "skip 0 r1; store y rlx 2; store x rlx 1"},
 
@@ -137,9 +138,9 @@ func TestApply(t *testing.T) {
 // P24.4, T2: of programs at random, each end that there is behind a step was there ahead of it.
 func TestTheorem(t *testing.T) {
 	rnd := rand.New(rand.NewSource(1))
-	lines := strings.Split("r1 = load x rlx; r2 = load x rlx; r2 = load y rlx; r1 = load y acq; store x rlx 1; store x rlx 1 1 +; store x rlx r1; store y rlx 1; store y rlx r2; store y rel r1; store x rel 1; fence acq; fence rel; fence sc; r1 = faa x rlx rlx 1; r2 = faa y acq rel 1; r2 = 1; r1 = r2; skip 1 r1; skip 2 r2", "; ")
+	lines := strings.Split("r1 = load x rlx; r2 = load x rlx; r2 = load y rlx; r1 = load y acq; store x rlx 1; store x rlx 1 1 +; store x rlx r1; store y rlx 1; store y rlx r2; store y rel r1; store x rel 1; fence acq; fence rel; fence sc; r1 = faa x rlx rlx 1; r2 = faa x rlx rlx r1; r2 = faa y acq rel 1; r2 = 1; r1 = r2; skip 1 r1; skip 2 r2", "; ")
 	taken := map[int]int{}
-	for range 2000 {
+	for range 2600 {
 		p := api.Prog{Locs: 2, Threads: make([][]api.Instr, 2+rnd.Intn(2))}
 		for range 3 + rnd.Intn(4) {
 			at := rnd.Intn(len(p.Threads))

@@ -66,7 +66,7 @@ func TestExamples(t *testing.T) {
 
 // random is a program that may be, of two or three threads.
 func random(rnd *rand.Rand) api.Prog {
-	lines := strings.Split("r1 = load x rlx; r2 = load x rlx; r2 = load y rlx; r1 = load y acq; store x rlx 1; store x rlx 1 1 +; store x rlx r1; store y rlx 1; store y rlx r2; store y rel r1; store x rel 1; fence acq; fence rel; fence sc; r1 = faa x rlx rlx 1; r2 = faa y acq rel 1; r2 = 1; r1 = r2; skip 1 r1; skip 2 r2", "; ")
+	lines := strings.Split("r1 = load x rlx; r2 = load x rlx; r2 = load y rlx; r1 = load y acq; store x rlx 1; store x rlx 1 1 +; store x rlx r1; store y rlx 1; store y rlx r2; store y rel r1; store x rel 1; fence acq; fence rel; fence sc; r1 = faa x rlx rlx 1; r2 = faa y rlx rlx r1; r2 = faa y acq rel 1; r2 = 1; r1 = r2; skip 1 r1; skip 2 r2", "; ")
 	for {
 		p := api.Prog{Locs: 2, Threads: make([][]api.Instr, 2+rnd.Intn(2))}
 		for range 3 + rnd.Intn(4) {

@@ -89,7 +89,7 @@ func TestInstr(t *testing.T) {
 		for _, x := range []struct {
 			e  []api.Tok
 			ok bool
-		}{{nil, !hasE}, {e("5"), hasE}, {e("r2"), hasE && k != 3}, {e("1 r2 +"), hasE && k != 3}, {e("1 1 1 1 + + +"), hasE}, {e("1 1 1 1 1 + + + +"), hasE && k != 3}, {e("1 2 +")[:2], false}, {[]api.Tok{{Kind: api.Const, V: 1 << 40}}, false}, {[]api.Tok{{Kind: api.Reg, V: 8}}, false}} {
+		}{{nil, !hasE}, {e("5"), hasE}, {e("r2"), hasE}, {e("1 r2 +"), hasE}, {e("r0"), hasE && k != 3}, {e("1 r0 + 1 r2 + +"), hasE && k != 3}, {e("1 1 1 1 + + +"), hasE}, {e("1 1 1 1 1 + + + +"), hasE && k != 3}, {e("1 2 +")[:2], false}, {[]api.Tok{{Kind: api.Const, V: 1 << 40}}, false}, {[]api.Tok{{Kind: api.Reg, V: 8}}, false}} {
 			i.E = x.e
 			if sound.Instr(i, 1, 0) != x.ok {
 				t.Error(i)
@@ -133,8 +133,10 @@ func TestCheck(t *testing.T) {
 			t.Error(i, x, got)
 		}
 	}
-	if i, ok := lang.ParseLine("store x acq 1"); !ok || sound.Instr(i, 1, 0) {
-		t.Error("a store of mode acq")
+	for s, may := range map[string]bool{"store x acq 1": false, "r3 = faa x rlx rlx r2 r4 *": true, "r3 = faa x rlx rlx r2 r3 *": false, "r3 = faa x rlx rlx 1": true, "r3 = r3": true} {
+		if i, ok := lang.ParseLine(s); !ok || sound.Instr(i, 1, 0) != may {
+			t.Error(s)
+		}
 	}
 }
 

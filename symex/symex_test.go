@@ -67,6 +67,7 @@ func TestPaths(t *testing.T) {
 		{"r1 = load x rlx; r2 = load y rlx; r3 = r2 r1 +; store x rlx r3 r1 -; r1 = 5; store y rlx r1", "R0x[/] R0y[/] W0x((i0 + i1) - i0)[01/] W0y5[/] \n"},
 		{"r1 = faa x acq rel 2; store y rlx r1", "R1x![/] W2x!(2 + i0)[0/] W0yi0[0/] \n"},
 		{"r1 = faa x rlx rlx 0", "R0x![/] W0x!i0[0/] \n"},
+		{"r1 = load y rlx; r2 = faa x rlx rlx r1 1 -", "R0y[/] R0x![/] W0x!((i0 - 1) + i1)[01/] \n"},
 		{"store x rlx r5", "W0x0[/] \n"},
 		// A Skip whose term is a Const parts nothing, but control grows.
 		{"skip 1 1; fence sc; fence rel", "B2x[/] \n"}, {"skip 1 0; fence sc; fence rel", "B4x[/] B2x[/] \n"}, {"skip 1 r3; fence sc", "B4x[/] \n"},
@@ -121,7 +122,7 @@ func TestBig(t *testing.T) {
 	// What a Faa writes: 59 and 2 are too many.
 	faa := func(n int) []api.Instr {
 		l := code("r1 = load x rlx" + strings.Repeat("; r1 = r1 1 ^", n))
-		return append(l, api.Instr{Kind: api.Faa, Reg: 2, E: []api.Tok{{Kind: api.Reg, V: 1}}})
+		return append(l, code("r2 = faa x rlx rlx r1")...)
 	}
 	if _, e := symex.Paths(faa(28)); e != api.OK {
 		t.Error("a Faa", e)

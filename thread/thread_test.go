@@ -72,6 +72,7 @@ func TestDo(t *testing.T) {
 		// A Faa.
 		{code("r1 = faa x acq rel 2 3 +", "store y rlx r1"), []int{10}, thread.Run{Events: []api.Event{ex(read(api.Acq, 0, 10)), ex(write(api.Rel, 0, 15)), write(0, 1, 10)}, Rmw: pairs(0, 1), Data: pairs(0, 1, 0, 2), Used: 1, Regs: regs(0, 10)}},
 		{code("r1 = faa x rlx rlx 1", "r2 = faa x rlx rlx 1"), []int{math.MaxInt, 1}, thread.Run{Events: []api.Event{ex(read(0, 0, math.MaxInt)), ex(write(0, 0, math.MinInt)), ex(read(0, 0, 1)), ex(write(0, 0, 2))}, Rmw: pairs(0, 1, 2, 3), Data: pairs(0, 1, 2, 3), Used: 2, Regs: regs(0, math.MaxInt, 1)}},
+		{code("r3 = load y rlx", "r1 = faa x rlx rlx r3 r3 +"), []int{4, 10}, thread.Run{Events: []api.Event{read(0, 1, 4), ex(read(0, 0, 10)), ex(write(0, 0, 18))}, Rmw: pairs(1, 2), Data: pairs(0, 2, 1, 2), Used: 2, Regs: regs(0, 10, 0, 4)}},
 		// Control: taken or not, all events behind it.
 		{code("r1 = load x rlx", "skip 1 r1", "store y rlx 1", "fence acq", "r2 = load y rlx"), []int{1, 6}, thread.Run{Events: []api.Event{read(0, 0, 1), bar(api.Acq), read(0, 1, 6)}, Ctrl: pairs(0, 1, 0, 2), Used: 2, Regs: regs(0, 1, 6)}},
 		{code("r1 = load x rlx", "skip 1 r1", "store y rlx 1", "r2 = faa y rlx rlx 1"), []int{0, 6}, thread.Run{Events: []api.Event{read(0, 0, 0), write(0, 1, 1), ex(read(0, 1, 6)), ex(write(0, 1, 7))}, Rmw: pairs(2, 3), Data: pairs(2, 3), Ctrl: pairs(0, 1, 0, 2, 0, 3), Used: 2, Regs: regs(0, 0, 6)}},

@@ -105,7 +105,7 @@ func renamed(rnd *rand.Rand, p api.Prog) api.Prog {
 // P26.2, T2, T4: each program is accepted for itself, each rule with its step; whatever is accepted has no end that p has not.
 func TestTheorem(t *testing.T) {
 	rnd := rand.New(rand.NewSource(1))
-	lines := strings.Split("r1 = load x rlx; r2 = load x rlx; r2 = load y rlx; r1 = load y acq; store x rlx 1; store x rlx 1 1 +; store x rlx r1; store y rlx 1; store y rel r1; store x rel 1; fence acq; fence rel; fence sc; r1 = faa x rlx rlx 1; r2 = faa y acq rel 1; r2 = 1; r1 = r2; skip 1 r1; skip 2 r2", "; ")
+	lines := strings.Split("r1 = load x rlx; r2 = load x rlx; r2 = load y rlx; r1 = load y acq; store x rlx 1; store x rlx 1 1 +; store x rlx r1; store y rlx 1; store y rel r1; store x rel 1; fence acq; fence rel; fence sc; r1 = faa x rlx rlx 1; r2 = faa x rlx rlx r1; r2 = faa y acq rel 1; r2 = 1; r1 = r2; skip 1 r1; skip 2 r2", "; ")
 	accepted, long := 0, 0
 	for range 800 {
 		p := api.Prog{Locs: 2, Threads: make([][]api.Instr, 2)}
