@@ -7,9 +7,6 @@ import (
 	"exegesis/api"
 )
 
-// mostProbes is how often a thread is probed till it counts as one that may do too much.
-const mostProbes = 1 << 15
-
 // open is the place of a read that may have each value that is written.
 const open = -1
 
@@ -164,7 +161,7 @@ func (w *walk) tooMuch() bool { return w.limit > 0 && w.probes > w.limit }
 func (w *walk) groups() ([]group, bool) {
 	at := map[key]int{}
 	groups := []group{}
-	w.limit = mostProbes
+	w.limit = w.s.patience
 	for b := range w.each(nil, 0) {
 		if b.stuck {
 			continue

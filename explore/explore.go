@@ -9,6 +9,9 @@ import (
 	"exegesis/api"
 )
 
+// mostProbes is the patience that there is.
+const mostProbes = 1 << 15
+
 // Thread is what is asked of a thread.
 type Thread struct {
 	// Probe is what the thread does, if its reads have some values; there are always enough.
@@ -45,22 +48,27 @@ func all(loc int) mask { return (1<<api.MaxDomain - 1) << (loc * api.MaxDomain) 
 
 // search looks for all ways in which threads' reads find what they read.
 type search struct {
-	domain  []int
-	locs    int
-	threads []Thread
-	first   mask             // what the first writes write
-	writes  [api.MaxLocs]int // how many other writes of each location there are at most
-	may     []mask           // of each thread what it may write
-	known   [][]group        // of each thread what it may do, if that is not too much
-	order   []int            // the threads, those that may do least ahead
-	picked  []group          // of each of these what it does
-	found   [][]behaviour    // what threads do together, by their own numbers
-	graphs  int              // of how many graphs
+	domain   []int
+	locs     int
+	threads  []Thread
+	patience int              // how often a thread is probed till it counts as one that may do too much
+	first    mask             // what the first writes write
+	writes   [api.MaxLocs]int // how many other writes of each location there are at most
+	may      []mask           // of each thread what it may write
+	known    [][]group        // of each thread what it may do, if that is not too much
+	order    []int            // the threads, those that may do least ahead
+	picked   []group          // of each of these what it does
+	found    [][]behaviour    // what threads do together, by their own numbers
+	graphs   int              // of how many graphs
 }
 
 // All is all graphs, by their values, Rf, Co; false, if they are more than MaxGraphs. The skeleton of lists that the threads use just up is asked for.
 func All(locs int, threads []Thread, domain []int, skeleton func(reads [][]int) api.Graph) ([]api.Graph, bool) {
-	s := &search{domain: Domain(domain), locs: locs, threads: threads}
+	s := &search{domain: Domain(domain), locs: locs, threads: threads, patience: mostProbes}
+	return s.run(skeleton)
+}
+
+func (s *search) run(skeleton func(reads [][]int) api.Graph) ([]api.Graph, bool) {
 	s.bound()
 	s.arrange()
 	s.choose(0, 0, 0)
