@@ -65,6 +65,9 @@ func plain(p api.Prog, domain []int) []api.Graph {
 	}
 	var out []api.Graph
 	for _, reads := range lists {
+		if len(out) > api.MaxGraphs {
+			return out
+		}
 		g, _ := gen.Skeleton(p, reads)
 		var writes [][]int
 		for loc := range p.Locs {
@@ -99,6 +102,9 @@ func froms(g api.Graph, writes [][]int, at int) [][]int {
 	}
 	var out [][]int
 	for _, w := range from {
+		if w >= 0 && g.Events[w].Value != g.Events[at].Value {
+			continue
+		}
 		for _, rest := range froms(g, writes, at+1) {
 			out = append(out, append([]int{w}, rest...))
 		}
