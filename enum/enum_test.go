@@ -3,7 +3,9 @@ package enum_test
 import (
 	"math"
 	"math/rand"
+	"reflect"
 	"slices"
+	"strings"
 	"testing"
 	"time"
 
@@ -208,6 +210,9 @@ func TestBig(t *testing.T) {
 		{"locs 4; thread; store x rlx 1; store x rlx 2; store x rlx 3; store x rlx 4; thread; store y rlx 1; store y rlx 2; store y rlx 3; store y rlx 4; thread; r1 = load y rlx; r2 = load x rlx; store z rlx 1; r3 = load z rlx", 24 * 24 * 25 * 2},
 		{"locs 1; thread; store x rlx 1; thread; r1 = load x rlx; r1 = load x rlx; r1 = load x rlx; r1 = load x rlx; r1 = load x rlx; r1 = load x rlx; r1 = load x rlx; thread; r1 = load x rlx; r1 = load x rlx; r1 = load x rlx; r1 = load x rlx; r1 = load x rlx; r1 = load x rlx; r1 = load x rlx", 1 << 14},
 		{"locs 1; thread; store x rlx 1; thread; r1 = load x rlx; r1 = load x rlx; r1 = load x rlx; r1 = load x rlx; r1 = load x rlx; r1 = load x rlx; r1 = load x rlx; thread; r1 = load x rlx; r1 = load x rlx; r1 = load x rlx; r1 = load x rlx; r1 = load x rlx; r1 = load x rlx; r1 = load x rlx; r1 = load x rlx", 1 << 15},
+		// Each thread: r1 is 0, and two reads of 0 or 1, or r1 is 1: 5 ways; and 5 reads more: just MaxGraphs.
+		{"locs 2" + strings.Repeat("; thread; r1 = load y rlx; skip 2 r1; r2 = load x rlx; r2 = load x rlx", 4) + strings.Repeat("; r2 = load x rlx", 5) + "; store x rlx 1; store y rlx 1", api.MaxGraphs},
+		{"locs 2" + strings.Repeat("; thread; r1 = load y rlx; skip 2 r1; r2 = load x rlx; r2 = load x rlx", 4) + strings.Repeat("; r2 = load x rlx", 6) + "; store x rlx 1; store y rlx 1", 2 * api.MaxGraphs},
 	} {
 		l, e := enum.All(sample.Program(x.text), []int{0, 1, 2, 3, 4, 5, 6, 7})
 		if x.n > api.MaxGraphs && (e != api.ErrBig || len(l) != 0) || x.n <= api.MaxGraphs && (e != api.OK || len(l) != x.n) {
@@ -237,9 +242,18 @@ func TestEachOnce(t *testing.T) {
 
 // R3: no two graphs share memory.
 func TestNewMemory(t *testing.T) {
-	p := sample.Program("locs 1; thread; r1 = load x rlx; store x rlx r1; store x rlx 1; thread; r2 = faa x rlx rlx 1; skip 0 r2; store x rlx 2")
+	const text = "locs 2; thread; r1 = load x rlx; store x rlx r1; store x rlx 1; thread; r2 = faa x rlx rlx 1; skip 0 r2; store y rlx 2; store y rlx 3"
+	p := sample.Program(text)
+	for i, l := range p.Threads {
+		p.Threads[i] = append(l, api.Instr{})[:len(l)]
+	}
 	a, _ := enum.All(p, []int{0, 1, 2})
 	b, _ := enum.All(p, []int{0, 1, 2})
+	for i, l := range sample.Program(text).Threads {
+		if !reflect.DeepEqual(p.Threads[i], l) || !reflect.DeepEqual(p.Threads[i][:len(l)+1][len(l)], api.Instr{}) {
+			t.Error("turned")
+		}
+	}
 	for i := range a {
 		g := a[i]
 		for j := range g.Events {

@@ -68,6 +68,11 @@ func TestCheck(t *testing.T) {
 		"another kind that is none": {func(g *api.Graph) { g.Events[4].Kind = 4 }, false},
 		"a location too far":        {func(g *api.Graph) { g.Events[3].Loc = 2 }, false},
 		"a location below":          {func(g *api.Graph) { g.Events[3].Loc = -1 }, false},
+		"a write too far":           {func(g *api.Graph) { g.Events[7].Loc, g.Co[1], g.Events[3].Value, g.Rf[3] = 2, []int{1}, 0, 1 }, false},
+		"a write below":             {func(g *api.Graph) { g.Events[7].Loc, g.Co[1], g.Events[3].Value, g.Rf[3] = -1, []int{1}, 0, 1 }, false},
+		"rmw over two threads":      {func(g *api.Graph) { g.Events[6].Thread, g.Events[7].Thread, g.Data, g.Ctrl = 3, 3, nil, nil }, false},
+		"one ex for another one":    {func(g *api.Graph) { g.Events[6].Ex, g.Events[7].Ex = false, true }, false},
+		"one ex ahead of one":       {func(g *api.Graph) { g.Events[5].Ex, g.Events[7].Ex = false, true }, false},
 		"rf too short":              {func(g *api.Graph) { g.Rf = g.Rf[:7] }, false},
 		"rf too long":               {func(g *api.Graph) { g.Rf = append(g.Rf, -1) }, false},
 		"rf of a write":             {func(g *api.Graph) { g.Rf[2] = 0 }, false},
@@ -126,6 +131,16 @@ func TestCheck(t *testing.T) {
 func TestSizes(t *testing.T) {
 	if !graph.Check(api.Graph{Locs: 1, Events: []api.Event{{Kind: api.Write}}, Rf: []int{-1}, Co: [][]int{{0}}}) {
 		t.Error("one location, no threads")
+	}
+	for locs := 1; locs <= 6; locs++ {
+		g := api.Graph{Locs: locs}
+		for loc := range locs {
+			g.Events = append(g.Events, api.Event{Kind: api.Write, Loc: loc})
+			g.Rf, g.Co = append(g.Rf, -1), append(g.Co, []int{loc})
+		}
+		if graph.Check(g) != (locs <= api.MaxLocs) {
+			t.Error(locs, "locations")
+		}
 	}
 	for n := 38; n <= 42; n++ {
 		g := api.Graph{Locs: 1, Co: [][]int{nil}}

@@ -5,6 +5,7 @@ import (
 	"math/rand"
 	"reflect"
 	"slices"
+	"strconv"
 	"strings"
 	"testing"
 	"time"
@@ -255,7 +256,8 @@ func TestSkeletonTooBig(t *testing.T) {
 			for range 2 + rnd.Intn(2) {
 				s += []string{"; ld r1 x", "; ld r1 x; mov r2 r1 r2 +", "; ld r2 x; mov r1 r2", "; mov r1 2"}[rnd.Intn(4)]
 				n := 5 + rnd.Intn(7)
-				s += []string{"; bc A r1" + strings.Repeat("; sync", n), "; bc A r1 1 =" + strings.Repeat("; sync", n), "; bc A r2 2 <" + strings.Repeat("; sync", n), strings.Repeat("; sync", n)}[rnd.Intn(4)]
+				s += []string{"; bc B r1; bc A r2" + strings.Repeat("; sync", n), "; bc A r1" + strings.Repeat("; sync", n), "; bc A r1 1 =" + strings.Repeat("; sync", n), "; bc A r2 2 <" + strings.Repeat("; sync", n), strings.Repeat("; sync", n)}[rnd.Intn(5)]
+				s = strings.ReplaceAll(s, "B", strconv.Itoa(n+1))
 				s = strings.ReplaceAll(s, "A", []string{"0", "1", "2", "3", "4", "5", "6", "7", "8", "9", "10", "11"}[n])
 			}
 			q.Threads[at] = program("locs 1; thread" + s).Threads[0]
@@ -292,6 +294,43 @@ func plainErr(q api.PProg, domain []int) (int, api.Errno) {
 	return len(first), api.OK
 }
 
+// P18.1: without a domain a thread that reads has no Values, and there is no Skeleton.
+func TestNoValues(t *testing.T) {
+	q := program("locs 1; thread; ld r1 x; thread" + strings.Repeat("; sync", 60))
+	if l, e := pgraph.All(q, nil); e != api.OK || len(l) != 0 {
+		t.Error(len(l), e)
+	}
+	if l, e := pgraph.All(q, []int{5}); e != api.ErrBig || len(l) != 0 {
+		t.Error(len(l), e)
+	}
+	q = program("locs 1; thread; bc 1 1; ld r1 x; thread" + strings.Repeat("; sync", 60))
+	if l, e := pgraph.All(q, nil); e != api.ErrBig || len(l) != 0 {
+		t.Error(len(l), e)
+	}
+}
+
+// R3: no two graphs share memory.
+func TestNewMemory(t *testing.T) {
+	q := program("locs 2; thread; ld r1 x; bc 0 r1; isync; st x r1; larx r2 y; stcx y r2 1 +; thread; st x 1; st y 2")
+	a, _ := pgraph.All(q, []int{0, 1, 2})
+	b, _ := pgraph.All(q, []int{0, 1, 2})
+	for i, g := range a {
+		for _, l := range [][]api.Pair{g.Rmw, g.Data, g.Ctrl, g.CtrlI} {
+			for j := range l {
+				l[j] = api.Pair{}
+			}
+		}
+		for _, l := range append(g.Co, g.Rf) {
+			for j := range l {
+				l[j] = 77
+			}
+		}
+		if i+1 < len(a) && !graph.Same(a[i+1], b[i+1]) {
+			t.Fatal(i)
+		}
+	}
+}
+
 // R1: it ends, and soon.
 func TestEnds(t *testing.T) {
 	eight := []int{0, 1, 2, 3, 4, 5, 6, 7}
@@ -308,6 +347,8 @@ func TestEnds(t *testing.T) {
 		{"locs 1; thread" + repeat(100, "ld r1 x") + "; thread" + repeat(100, "sync"), 0, api.ErrBig},
 		{"locs 1; thread" + repeat(33, "ld r1 x; mov r2 r2 r1 +; bc 0 r2") + "; thread" + repeat(33, "ld r1 x; bc 1 r1; st x 1"), 0, api.ErrBig},
 		{"locs 1; thread" + repeat(30, "ld r1 x; bc 1 r1; sync"), 0, api.ErrBig},
+		{"locs 1; thread; thread" + repeat(40, "sync"), 0, api.ErrBig},
+		{"locs 1; thread; thread" + repeat(39, "sync"), 1, api.OK},
 		{"locs 2; thread" + repeat(7, "st x 1") + "; thread" + repeat(2, "ld r1 x"), 0, api.ErrBig},
 	} {
 		start := time.Now()

@@ -65,6 +65,7 @@ func TestDo(t *testing.T) {
 		{"ld r1 x; bc 0 r1; isync; ld r2 y; bc 0 r2; st z 1; isync; st z 2", []int{1, 2}, pthread.Run{Events: []api.Event{read(0, 1, false), read(1, 2, false), write(2, 1, false), write(2, 2, false)}, Ctrl: pairs(0, 1, 0, 2, 0, 3, 1, 2, 1, 3), CtrlI: pairs(0, 1, 0, 2, 0, 3, 1, 3), Used: 2, Regs: regs(0, 1, 2)}},
 		{"ld r1 x; bc 1 r1; isync; sync", []int{1}, pthread.Run{Events: []api.Event{read(0, 1, false), bar(api.SC)}, Ctrl: pairs(0, 1), Used: 1, Regs: regs(0, 1)}},
 		{"ld r1 x; bc 1 r1; isync; sync", []int{0}, pthread.Run{Events: []api.Event{read(0, 0, false), bar(api.SC)}, Ctrl: pairs(0, 1), CtrlI: pairs(0, 1), Used: 1}},
+		{"ld r0 x; bc 0 r0; st y r0", []int{4}, pthread.Run{Events: []api.Event{read(0, 4, false), write(1, 4, false)}, Data: pairs(0, 1), Ctrl: pairs(0, 1), Used: 1, Regs: regs(4)}},
 		{"bc 2 1; ld r1 x; sync", nil, pthread.Run{}},
 	} {
 		if x.run.Regs == nil {

@@ -66,6 +66,7 @@ func TestPaths(t *testing.T) {
 		{"store z rel 3 4 *; fence sc; r1 = load x acq; fence acq", "W2z12[/] B4x[/] R1x[/] B1x[/] \n"},
 		{"r1 = load x rlx; r2 = load y rlx; r3 = r2 r1 +; store x rlx r3 r1 -; r1 = 5; store y rlx r1", "R0x[/] R0y[/] W0x((i0 + i1) - i0)[01/] W0y5[/] \n"},
 		{"r1 = faa x acq rel 2; store y rlx r1", "R1x![/] W2x!(2 + i0)[0/] W0yi0[0/] \n"},
+		{"r0 = load x rlx; skip 0 r0 0 *; store y rlx r0 1 +", "R0x[/] W0y(1 + i0)[0/0] \n"},
 		{"r1 = faa x rlx rlx 0", "R0x![/] W0x!i0[0/] \n"},
 		{"r1 = load y rlx; r2 = faa x rlx rlx r1 1 -", "R0y[/] R0x![/] W0x!((i0 - 1) + i1)[01/] \n"},
 		{"store x rlx r5", "W0x0[/] \n"},

@@ -100,6 +100,9 @@ func TestInner(t *testing.T) {
 	g := sample.Graph("locs 1; thread; fence rel; store x rlx 1; r1 = load x acq; fence acq", []int{2}, []int{2})
 	is(t, "release", sync.Release(g), 1, 2)
 	is(t, "sw", sync.Sw(g), 1, 3, 1, 4)
+	// 1: x rel; 2: read of 3, another thread's.
+	g = sample.Graph("locs 1; thread; store x rel 1; r1 = load x acq; thread; store x rlx 2", []int{3}, []int{1, 3})
+	is(t, "sw", sync.Sw(g))
 }
 
 // P10.2

@@ -122,6 +122,11 @@ func TestShared(t *testing.T) {
 	if d := mk(api.Mul, c, a); d.L != a && d.L != c {
 		t.Error("made of others")
 	}
+	// Alike on the left, and beyond all bounds: what is on the right says the places.
+	first, second := op(api.Sub, a, read(0)), op(api.Sub, b, read(1))
+	if u, v := mk(api.Add, first, second), mk(api.Add, second, first); u.L != first || v.L != first {
+		t.Error("places of what is alike on the left")
+	}
 	x, y := mk(api.Eq, a, b), mk(api.Eq, b, a)
 	if !term.Same(x, y) {
 		t.Error("places")
