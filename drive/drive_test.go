@@ -63,12 +63,23 @@ func TestOptimise(t *testing.T) {
 		{"locs 1; thread; fence acq; fence rel; fence acq", "locs 1; thread; fence acqrel"},
 		{"locs 1; thread; store x rlx 1; r1 = load x rlx", "locs 1; thread; store x rlx 1"},
 		{"locs 1; thread; r1 = 5; r2 = load x rlx; skip 2 r2; r3 = r1; fence sc; store x rlx 1", "locs 1; thread; r2 = load x rlx; skip 1 r2; fence sc; store x rlx 1"},
+		{"locs 1; thread; r2 = load x rlx; skip 1 r2; fence sc; r3 = 1; store x rlx 1", "locs 1; thread; r2 = load x rlx; skip 1 r2; fence sc; store x rlx 1"},
+		{"locs 1; thread; r2 = load x rlx; skip 0 r2; r3 = 1; store x rlx 1", "locs 1; thread; r2 = load x rlx; skip 0 r2; store x rlx 1"},
 		{"locs 2; thread; r1 = load x rlx; r2 = 7; store y rlx r1 r2 +", "locs 2; thread; r1 = load x rlx; r2 = 7; store y rlx r1 r2 +"},
 	} {
 		q, l := drive.Optimise(sample.Program(x.p))
 		if !reflect.DeepEqual(lang.Text(q), lang.Text(sample.Program(x.q))) || valid.Check(sample.Program(x.p), q, l).Err != api.OK {
 			t.Errorf("%s: %q %v", x.p, lang.Text(q), l)
 		}
+	}
+	// More steps than a certificate may have.
+	much := sample.Program("locs 1" + strings.Repeat("; thread"+strings.Repeat("; store x rlx 1 1 +; fence sc", 4), 4))
+	if q, l := drive.Optimise(much); len(l) != 16 || valid.Check(much, q, l).Err != api.OK {
+		t.Error(lang.Text(q), l)
+	}
+	much = sample.Program("locs 1" + strings.Repeat("; thread"+strings.Repeat("; store x rlx 1 1 +; fence acq", 4)+strings.Repeat("; skip 0 1 1 +", 4), 4))
+	if q, l := drive.Optimise(much); len(l) != api.MaxSteps || valid.Check(much, q, l).Err != api.OK {
+		t.Error(lang.Text(q), l)
 	}
 	// What is stored is so great that it may not stand in a register behind it.
 	great := "locs 2; thread; r1 = load x rlx; r1 = r1 r1 *; r1 = r1 r1 *; r1 = r1 r1 *; store x rlx r1 r1 * r1 * 5 *; r2 = load x rlx; store y rlx r2 r1 *"

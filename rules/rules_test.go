@@ -61,6 +61,7 @@ func TestSteps(t *testing.T) {
 		{"store x rlx 1; store x rlx 2", api.Swap, 0, 0, ""}, {"store x rel 1; store y rlx 2", api.Swap, 0, 0, "store y rlx 2; store x rel 1"}, {"store x rlx 1; store y rel 2", api.Swap, 0, 0, ""}, {"store x rlx 1; store y rlx 2", api.Swap, 0, 1, ""}, {"store x rlx 1; store y rlx 2", api.Swap, 1, 0, ""}, {"store x rlx 1; store y rlx 2", api.Swap, -1, 0, ""}, {"store x rlx 1; store y rlx 2", api.Swap, math.MaxInt, 0, ""}, {"store x rlx 1", api.Swap, 0, 0, ""},
 		{"r1 = load x rlx; r2 = load y rlx", api.Swap, 0, 0, "r2 = load y rlx; r1 = load x rlx"}, {"r1 = load x rlx; r2 = load x rlx", api.Swap, 0, 0, ""}, {"r1 = load x acq; r2 = load y rlx", api.Swap, 0, 0, ""}, {"r1 = load x rlx; r2 = load y acq", api.Swap, 0, 0, "r2 = load y acq; r1 = load x rlx"}, {"r1 = load x rlx; r1 = load y rlx", api.Swap, 0, 0, ""},
 		{"r1 = load x rlx; store y rlx r1", api.Swap, 0, 0, ""}, {"r1 = load x rlx; store y rlx r2", api.Swap, 0, 0, "store y rlx r2; r1 = load x rlx"}, {"store y rlx r1; r1 = load x rlx", api.Swap, 0, 0, ""}, {"store y rlx r2; r1 = load x rlx", api.Swap, 0, 0, "r1 = load x rlx; store y rlx r2"}, {"store y rel r2; r1 = load x acq", api.Swap, 0, 0, "r1 = load x acq; store y rel r2"},
+		{"r0 = load x rlx; store y rlx r0", api.Swap, 0, 0, ""}, {"r0 = load x rlx; r0 = load y rlx", api.Swap, 0, 0, ""}, {"r1 = r0; r0 = load x rlx", api.Swap, 0, 0, ""},
 		{"r1 = load x rlx; r2 = 1", api.Swap, 0, 0, "r2 = 1; r1 = load x rlx"}, {"r1 = load x rlx; r2 = r1", api.Swap, 0, 0, ""}, {"r1 = load x rlx; r1 = 1", api.Swap, 0, 0, ""}, {"r2 = r1; r1 = load x rlx", api.Swap, 0, 0, ""}, {"r1 = load x acq; r2 = 1", api.Swap, 0, 0, "r2 = 1; r1 = load x acq"}, {"r2 = 1; store x rel r3", api.Swap, 0, 0, "store x rel r3; r2 = 1"}, {"r2 = 1; r3 = 2", api.Swap, 0, 0, "r3 = 2; r2 = 1"}, {"r2 = 1; r3 = r2", api.Swap, 0, 0, ""}, {"r2 = r3; r3 = 1", api.Swap, 0, 0, ""}, {"r2 = r2; r2 = r2", api.Swap, 0, 0, ""},
 		{"r1 = faa x rlx rlx 1; r2 = 1", api.Swap, 0, 0, "r2 = 1; r1 = faa x rlx rlx 1"}, {"r1 = faa x rlx rlx 1; r2 = load y rlx", api.Swap, 0, 0, ""}, {"r2 = load y rlx; r1 = faa x rlx rlx 1", api.Swap, 0, 0, "r1 = faa x rlx rlx 1; r2 = load y rlx"}, {"r2 = load y rlx; r1 = faa x acq rlx 1", api.Swap, 0, 0, "r1 = faa x acq rlx 1; r2 = load y rlx"}, {"r2 = load y rlx; r1 = faa x rlx rel 1", api.Swap, 0, 0, ""}, {"r2 = load x rlx; r1 = faa x rlx rlx 1", api.Swap, 0, 0, ""}, {"r1 = faa x acq rel 1; r2 = 1", api.Swap, 0, 0, "r2 = 1; r1 = faa x acq rel 1"},
 		{"r2 = load y rlx; r1 = faa x rlx rlx r2", api.Swap, 0, 0, ""}, {"r1 = faa x rlx rlx r2; r2 = 1", api.Swap, 0, 0, ""}, {"r1 = faa x rlx rlx r2; r3 = 1", api.Swap, 0, 0, "r3 = 1; r1 = faa x rlx rlx r2"},
@@ -122,6 +123,10 @@ func TestApply(t *testing.T) {
 	}
 	if lang.Text(p) != "locs 1\nthread\nfence acq\nthread\nfence acq\nfence rel\nthread\nfence acq\n" {
 		t.Error("shared")
+	}
+	q, _ = rules.Apply(thread("store x rlx r1; r2 = load x rlx"), api.Step{Rule: api.ReadWrite})
+	if q.Threads[0][0].E[0].V = 7; q.Threads[0][1].E[0].V != 1 {
+		t.Error("two lists of an answer are shared")
 	}
 	many := thread(strings.TrimSuffix(strings.Repeat("r1 = 1; ", 12), "; "))
 	insert := api.Step{Rule: api.Insert, Mode: api.SC}

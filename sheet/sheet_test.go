@@ -76,6 +76,19 @@ func TestMuch(t *testing.T) {
 	if said != "ok\n"+strings.Repeat(code, n) {
 		t.Error(len(said), n*len(code))
 	}
+	// Just so much, to the byte: lines of 3 and of 8 bytes fill it up.
+	left := 1<<20 - 3 - n*len(code)
+	s = "p " + l + "\n" + strings.Repeat("code\n", n)
+	for ; left%3 != 0; left -= 8 {
+		s += "what\n"
+	}
+	s += strings.Repeat("cert\n", left/3)
+	if said := run(t, s+"cert\n"); left < 0 || len(said) != 1<<20 || said != run(t, s) {
+		t.Error("to the byte", left, len(said))
+	}
+	if said := run(t, strings.Replace(s, "cert\n", "", 1)+"what\ncert\n"); len(said) != 1<<20-3 {
+		t.Error("what would be too much ends it", len(said))
+	}
 	// A sheet cut behind a line says the beginning of what the whole says.
 	cut := ""
 	for _, line := range strings.SplitAfter("p "+mp+"\nimm\nwhat\nq "+one+"\n\ncheck\ncode q\ncert x\nopt\npower", "\n") {
