@@ -164,6 +164,9 @@ func TestTheorem(t *testing.T) {
 				t.Fatal(text, lang.Text(q))
 			}
 		}
+		if len(lang.Text(q)) > len(text) {
+			t.Fatal(text, lang.Text(q))
+		}
 		if compiled, e := drive.Compile(text); e != api.OK || compiled != asm.Text(c) {
 			t.Fatal(text, compiled)
 		}

@@ -5,6 +5,7 @@ import (
 
 	"exegesis/api"
 	"exegesis/fresh"
+	"exegesis/lang"
 	"exegesis/rules"
 	"exegesis/valid"
 )
@@ -38,7 +39,7 @@ func better(p api.Prog) (api.Prog, api.Step, bool) {
 				}
 				q, e := rules.Apply(p, s)
 				// What was read may have been a small term where what was written is a great one.
-				if e == api.OK && valid.Match(q, q) == api.OK {
+				if e == api.OK && !longer(q, p) && valid.Match(q, q) == api.OK {
 					return q, s, true
 				}
 			}
@@ -46,6 +47,9 @@ func better(p api.Prog) (api.Prog, api.Step, bool) {
 	}
 	return api.Prog{}, api.Step{}, false
 }
+
+// longer tells whether a program is longer than another one, as a text.
+func longer(q, p api.Prog) bool { return len(lang.Text(q)) > len(lang.Text(p)) }
 
 // tidied is a program without those Sets whose lack no summary shows.
 func tidied(p api.Prog) api.Prog {
